@@ -1,0 +1,1 @@
+"""Flatsheaves: nested sequences, flattened into straight programs of whole-vector instructions."""
