@@ -9,6 +9,9 @@ INTERFACE = {
     "errors": ["FlatError", "KindError", "TrapError", "PaperError"],
     "numbers": ["wrapped", "calculate"],
     "kinds": ["check", "free_names"],
+    "plain": ["size", "evaluate"],
+    "vectors": ["execute"],
+    "layouts": ["vectors_of", "values_of"],
 }
 
 
