@@ -34,6 +34,24 @@ def function(name, given, result, body, param="v"):
     return ("function", name, param, given, result, body)
 
 
+def block(code, results, given=NUM, result=NUM, name="f"):
+    return ("block", name, given, result, code, results)
+
+
+def spoil(value):
+    """Change every list and every dict in a value."""
+    waiting = [value]
+    while waiting:
+        part = waiting.pop()
+        if isinstance(part, dict):
+            waiting.extend(part.values())
+            part["spoiled"] = "spoiled"
+        elif isinstance(part, (list, tuple)):
+            waiting.extend(part)
+        if isinstance(part, list):
+            part.append("spoiled")
+
+
 V = var("v")
 X = var("x")
 Y = var("y")

@@ -133,6 +133,52 @@ class Maker:
         return shuffled
 
 
+class RingMaker(Maker):
+    """Programs whose functions call themselves, earlier and later ones, in rings as well.
+
+    The first part of each parameter is a number that every call makes smaller, and a function
+    makes calls only as long as it is not too small.
+    """
+
+    def program(self):
+        kinds = [NUM, seq(NUM), both(NUM, NUM), seq(seq(NUM)), seq(both(NUM, NUM))]
+        many = self.random.randrange(1, 5)
+        kinds = self.random.sample(kinds, 2)
+        heads = [(f"f{k}", both(NUM, self.random.choice(kinds)), self.random.choice(kinds)) for k in range(many)]
+        return [function(*head, self.body(*head[1:], heads), "p") for head in heads]
+
+    def body(self, given, result, heads):
+        names = {"p": given, "v": given[2]}
+        self.callable = [function(*head, None) for head in heads]
+        some = self.expression(result, names, 3)
+        while "'call'" not in repr(some):
+            some = self.expression(result, names, 3)
+        self.callable = []
+        none = self.expression(result, names, 3)
+        inner = ("if", op("<", num(0), ("first", var("p"))), some, none)
+        return ("let", "v", ("second", var("p")), inner)
+
+    def ways(self, kind):
+        ways = super().ways(kind)
+        return ways + [self.call] * 5 if self.call in ways else ways
+
+    def call(self, kind, names, depth):
+        f = self.random.choice([f for f in self.callable if f[4] == kind])
+        inner = self.expression(f[3][2], names, depth)
+        return ("call", f[1], ("pair", op("-", ("first", var("p")), num(1)), inner))
+
+    def value_with(self, fuel, kind):
+        return (fuel, self.value(kind[2]))
+
+
+def made_ring(seed):
+    """A program with calls in rings, the name of one of its functions, and values for it."""
+    maker = RingMaker(seed)
+    program = maker.program()
+    _, name, _, given, _, _ = maker.random.choice(program)
+    return program, name, [maker.value_with(fuel, given) for fuel in (0, 1, 2, 3)]
+
+
 def made(seed):
     """A program, the name of one of its functions, and values for it."""
     maker = Maker(seed)

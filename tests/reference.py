@@ -17,12 +17,14 @@ class Reference:
     def __init__(self, program):
         self.functions = {f[1]: f for f in program}
         self.work = 0
+        self.calls = 0
         self.depth = 0
 
     def call(self, name, value):
         if self.depth == 40:
             raise TrapError("calls")
         self.depth += 1
+        self.calls += 1
         f = self.functions[name]
         result = self.value(f[5], {f[2]: value})
         self.depth -= 1
@@ -94,3 +96,10 @@ def reference(program, name, value):
     run = Reference(program)
     result = run.call(name, value)
     return result, run.work
+
+
+def counted(program, name, value):
+    """The result, the work and the number of calls, the first one included."""
+    run = Reference(program)
+    result = run.call(name, value)
+    return result, run.work, run.calls

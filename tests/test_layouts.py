@@ -1,7 +1,7 @@
 import copy
 import unittest
 
-from building import HIGH, LOW, NUM, NUMS, POINT, ROWS, both, seq
+from building import HIGH, LOW, NUM, NUMS, POINT, ROWS, both, seq, spoil
 from flatsheaves.layouts import values_of, vectors_of
 
 POINTS = seq(POINT)
@@ -44,15 +44,6 @@ CASES = [
 
 # The number of vectors of a kind without any values.
 NOTHING = [(NUM, 1), (POINT, 2), (NUMS, 2), (ROWS, 3), (POINTS, 3), (both(ROWS, NUM), 4), (seq(seq(ROWS)), 5), (DEEP, 8)]
-
-
-def spoil(value):
-    """Change every list in a value."""
-    if isinstance(value, (list, tuple)):
-        for part in value:
-            spoil(part)
-    if isinstance(value, list):
-        value.append("spoiled")
 
 
 class Layouts(unittest.TestCase):

@@ -12,6 +12,10 @@ INTERFACE = {
     "plain": ["size", "evaluate"],
     "vectors": ["execute"],
     "layouts": ["vectors_of", "values_of"],
+    "flatten": ["flatten"],
+    "machine": ["run"],
+    "passes": ["rewrite", "improve"],
+    "slots": ["live", "plan", "fewest", "plan_right", "run_slots"],
 }
 
 
